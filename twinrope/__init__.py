@@ -1,0 +1,1 @@
+"""Twinrope: guests on ropes with a red and a blue car at unlike ends."""
