@@ -1,0 +1,194 @@
+"""Points 3 to 5: arguments, returned lists, equality, and errors in the same order everywhere."""
+
+import unittest
+
+from case import FAR, Case
+from oracle import great_net, great_tree
+from twinrope.arrows import (arrows_of, blue_reach, can_meet, dead_stations, live_parts, live_ropes, meet_row,
+                             meeting_way, red_reach)
+from twinrope.books import Books, books_of
+from twinrope.errors import NoColour, NoRope, NoStation
+from twinrope.kinship import are_alike, difference_of
+from twinrope.least import crossings_of, least_number, least_row, useful_rides
+from twinrope.marks import Marks, border_holds, dead_by, marks_hold, marks_of, still_by
+from twinrope.nets import Net
+from twinrope.rides import after_ride, can_ride, end_of, rides_from, walk
+from twinrope.standings import Standing, every_standing, standing_count
+from twinrope.texts import read_standing, read_trip, write_standing, write_trip
+from twinrope.trees import beyond, toward, way_between
+from twinrope.trips import Trip
+from twinrope.visits import run_rope, visit_row
+
+
+def plain(value):
+    """The value without any list or object that could be changed later."""
+    if isinstance(value, Net):
+        return "net", value.stations, plain(value.ropes)
+    if isinstance(value, Standing):
+        return "standing", plain(value.net), plain(value.reds), plain(value.blues), plain(value.cars)
+    if isinstance(value, Trip):
+        return "trip", plain(value.rides)
+    if isinstance(value, Books):
+        return "books", plain(value.entries)
+    if isinstance(value, Marks):
+        return "marks", plain(value.red_side), plain(value.blue_side)
+    if isinstance(value, (list, tuple)):
+        return type(value).__name__, tuple(plain(item) for item in value)
+    return value
+
+
+def spoil(value):
+    """Changes every list in the value, also inside of lists and tuples."""
+    if isinstance(value, (list, tuple)):
+        for item in list(value):
+            spoil(item)
+    if isinstance(value, list):
+        value.reverse()
+        value.append("spoilt")
+        value.insert(0, "spoilt")
+
+
+TREE = Net(4, [(0, 1), (2, 1), (1, 3)])
+FIRST = Standing(TREE, [2, 0, 0, 0], [0, 0, 1, 0], [0, 1, 0])
+SECOND = end_of(FIRST, (0, "red"), (0, "red"), (0, "red"), (1, "red"))
+APART = Standing(TREE, [2, 0, 0, 0], [0, 0, 1, 0], [1, 1, 0])
+NEVER = Standing(Net.row(5), [0, 1, 0, 0, 0], [0, 0, 0, 0, 1], [1, 1, 1, 0])
+GREAT = Standing(great_net(), [1] + [0] * 23, [0] * 23 + [2], [0] * 40)
+WIDE = Standing(great_tree(), [1] + [0] * 23, [0] * 23 + [2], [0] * 23)
+RIDES = [(0, "red"), (0, "red"), (0, "red"), (1, "red")]
+MARKS = Marks([0, 1], [3, 4])
+
+
+def calls():
+    """Pairs of a function and a list of its arguments, at least one for each entry of the interface."""
+    found = [
+        (Net, [4, [(0, 1), (2, 1), (1, 3)]]), (Net.row, [4]), (Net.ring, [4]), (Net.star, [4]), (TREE.ends, [1]),
+        (TREE.other_end, [1, 2]), (TREE.ropes_at, [1]), (repr, [TREE]),
+        (Standing, [TREE, [2, 0, 0, 0], [0, 0, 1, 0], [0, 0, 0]]), (Standing.gathered, [TREE, 3, 4]),
+        (FIRST.key, []), (FIRST.red_car, [1]), (FIRST.blue_car, [1]), (FIRST.red_cars_at, [1]),
+        (standing_count, [TREE, 2, 1]), (lambda *args: list(every_standing(*args)), [TREE, 1, 1]),
+        (can_ride, [FIRST, 0, "red"]), (after_ride, [FIRST, 0, "red"]), (rides_from, [FIRST]),
+        (walk, [FIRST, list(RIDES)]), (end_of, [FIRST] + RIDES), (Trip, [list(RIDES)]), (Trip(RIDES).reduced, []),
+        (Trip(RIDES).tally, [3]), (list, [Trip(RIDES)]), (write_standing, [FIRST]),
+        (read_standing, [write_standing(FIRST)]), (write_trip, [list(RIDES)]), (read_trip, ["r0 b1 r0"]),
+        (Books, [[1, 2]]), (Books([1, 2]).total, []), (list, [Books([1, 2])]), (Marks, [[1, 0, 1], [5]]),
+        (MARKS.within, [Marks([0, 1, 2], [3, 4])]), (difference_of, [FIRST, SECOND]), (difference_of, [FIRST, APART]),
+        (are_alike, [FIRST, SECOND]), (crossings_of, [FIRST, SECOND]), (least_number, [FIRST, SECOND]),
+        (useful_rides, [FIRST, SECOND]), (least_row, [FIRST, SECOND]), (beyond, [TREE, 0, 1]), (toward, [TREE, 3]),
+        (way_between, [TREE, 0, 3]), (beyond, [WIDE.net, 0, 1]), (toward, [WIDE.net, 3]),
+        (way_between, [WIDE.net, 0, 23]), (marks_of, [NEVER]),
+    ]
+    for here in (FIRST, NEVER, GREAT, WIDE):
+        for entry in (books_of, arrows_of, red_reach, blue_reach, can_meet, meeting_way, dead_stations, live_ropes,
+                      live_parts, rides_from):
+            found.append((entry, [here]))
+        found += [(marks_hold, [here, MARKS]), (dead_by, [here, MARKS, 2]), (still_by, [here, MARKS, 1]),
+                  (border_holds, [here, MARKS, [0, 1, 1]]), (visit_row, [here, 1]), (run_rope, [here, 0])]
+        if can_meet(here):
+            found.append((meet_row, [here]))
+    return found
+
+
+class Arguments(Case):
+
+    def test_calls_change_no_argument_and_no_later_answer(self):
+        for entry, arguments in calls():
+            before = plain(arguments)
+            answer = entry(*arguments)
+            kept = plain(answer)
+            self.assertEqual(plain(arguments), before)
+            spoil(answer)
+            self.assertEqual(plain(entry(*arguments)), kept)
+            self.assertEqual(plain(arguments), before)
+
+    def test_meeting_is_among_the_calls(self):
+        self.assertEqual([can_meet(here) for here in (FIRST, NEVER)], [True, False])
+        self.assertNotEqual(meeting_way(FIRST)[1], [])
+        self.assertEqual(live_parts(NEVER), [[0, 1], [3, 4]])
+
+    def test_equal_arguments_give_equal_results(self):
+        for (entry, arguments), (other, again) in zip(calls(), calls()):
+            self.assertEqual(plain(entry(*arguments)), plain(other(*again)))
+
+    def test_objects_keep_copies(self):
+        ropes = [(0, 1), (1, 2)]
+        net = Net(3, ropes)
+        reds, blues, cars = [1, 0, 0], [0, 0, 1], [0, 1]
+        here = Standing(net, reds, blues, cars)
+        rides, entries, sides = [(0, "red")], [1, 2], ([1, 0], [2])
+        trip, books, marks = Trip(rides), Books(entries), Marks(*sides)
+        kept = plain([net, here, trip, books, marks])
+        spoil([ropes, reds, blues, cars, rides, entries, sides])
+        self.assertEqual(plain([net, here, trip, books, marks]), kept)
+        self.assertEqual(net, Net(3, [(0, 1), (1, 2)]))
+        self.assertEqual(here, Standing(Net.row(3), [1, 0, 0], [0, 0, 1], [0, 1]))
+        self.assertEqual((trip, books, marks), (Trip([(0, "red")]), Books([1, 2]), Marks([0, 1], [2])))
+
+    def test_walked_standings_are_not_changed(self):
+        found = walk(FIRST, RIDES)
+        kept = plain(found)
+        found[0] = None
+        self.assertEqual(plain(walk(FIRST, RIDES)), kept)
+        self.assertEqual(FIRST.reds, (2, 0, 0, 0))
+
+
+class Equality(Case):
+
+    def test_an_object_beside_a_value_of_another_class(self):
+        objects = [Net(1, []), Standing(Net(1, []), [0], [0], []), Trip([]), Books([]), Books([0]), Marks([], [])]
+        others = [None, 0, "", "x", (), [], {}, True, (0,), [0], ((), ()), (0, 0), (1, ()), {1}]
+        for place, one in enumerate(objects):
+            for other in others + objects[:place] + objects[place + 1:]:
+                self.assertIs(one == other, False)
+                self.assertIs(one != other, True)
+                self.assertIs(other == one, False)
+            self.assertIs(one == one, True)
+
+    def test_an_object_beside_its_own_parts(self):
+        rides = ((0, "red"),)
+        for one, other in ((Trip(rides), rides), (Trip(rides), list(rides)), (Books([1, 2]), (1, 2)),
+                           (Books([1, 2]), [1, 2]), (FIRST, FIRST.key()), (TREE, TREE.ropes), (TREE, repr(TREE)),
+                           (MARKS, (MARKS.red_side, MARKS.blue_side)), (Trip([]), Books([]))):
+            self.assertIs(one == other, False)
+            self.assertIs(one != other, True)
+
+
+class OrderOfErrors(Case):
+
+    def test_stations_that_do_not_exist(self):
+        for here in (FIRST, NEVER, WIDE, GREAT):
+            for station in (-1, here.net.stations, FAR, -FAR):
+                entries = [
+                    lambda: here.net.ropes_at(station), lambda: here.net.other_end(0, station),
+                    lambda: here.red_cars_at(station), lambda: dead_by(here, MARKS, station),
+                    lambda: visit_row(here, station), lambda: books_of(here)[station],
+                ]
+                for entry in entries:
+                    self.fails(entry, NoStation, station)
+
+    def test_ropes_that_do_not_exist(self):
+        for here in (FIRST, NEVER, WIDE, GREAT):
+            for rope in (-1, len(here.net.ropes), FAR, -FAR):
+                entries = [
+                    lambda: here.net.ends(rope), lambda: here.net.other_end(rope, -5), lambda: here.red_car(rope),
+                    lambda: here.blue_car(rope), lambda: can_ride(here, rope, "green"),
+                    lambda: after_ride(here, rope, "green"), lambda: walk(here, [(rope, "green")]),
+                    lambda: end_of(here, (rope, "green")), lambda: end_of(here, (rope, "red"), back=True),
+                    lambda: still_by(here, MARKS, rope), lambda: run_rope(here, rope),
+                ]
+                for entry in entries:
+                    self.fails(entry, NoRope, rope)
+
+    def test_words_that_are_no_colour(self):
+        for here in (FIRST, NEVER, WIDE, GREAT):
+            for word in ("", "Red", "blue ", "green", "r", "redblue", "0"):
+                entries = [
+                    lambda: can_ride(here, 0, word), lambda: after_ride(here, 0, word),
+                    lambda: walk(here, [(0, word), (-1, "red")]), lambda: end_of(here, (0, word), (-1, "red")),
+                ]
+                for entry in entries:
+                    self.fails(entry, NoColour, word)
+
+
+if __name__ == "__main__":
+    unittest.main()

@@ -1,0 +1,73 @@
+"""The interface: every name stands in its file, and every method in its class."""
+
+import importlib
+import inspect
+import unittest
+
+from twinrope.nets import Net
+from twinrope.standings import Standing
+from twinrope.trips import Trip
+
+FUNCTIONS = {
+    "standings": {"standing_count": "net reds blues", "every_standing": "net reds blues"},
+    "rides": {"can_ride": "standing rope colour", "after_ride": "standing rope colour", "rides_from": "standing",
+              "walk": "standing rides", "end_of": "standing rides back"},
+    "texts": {"write_standing": "standing", "read_standing": "text", "write_trip": "rides", "read_trip": "text"},
+    "books": {"books_of": "standing"},
+    "arrows": {"arrows_of": "standing", "red_reach": "standing", "blue_reach": "standing", "can_meet": "standing",
+               "meeting_way": "standing", "meet_row": "standing", "dead_stations": "standing",
+               "live_ropes": "standing", "live_parts": "standing"},
+    "kinship": {"difference_of": "first second", "are_alike": "first second"},
+    "marks": {"marks_hold": "standing marks", "marks_of": "standing", "dead_by": "standing marks station",
+              "still_by": "standing marks rope", "border_holds": "standing marks stations"},
+    "visits": {"visit_row": "standing station", "run_rope": "standing rope"},
+    "trees": {"beyond": "net home rope", "toward": "net home", "way_between": "net start end"},
+    "least": {"crossings_of": "first second", "least_number": "first second", "useful_rides": "standing goal",
+              "least_row": "first second"},
+}
+CLASSES = {
+    "nets": {"Net": "row ring star ends other_end ropes_at is_tree is_ring is_row __eq__ __repr__"},
+    "standings": {"Standing": "gathered red_total blue_total key red_car blue_car red_cars_at __eq__ __invert__"},
+    "trips": {"Trip": "reduced tally __add__ __invert__ __eq__ __len__ __getitem__ __iter__"},
+    "books": {"Books": "total __add__ __sub__ __neg__ __eq__ __len__ __getitem__ __bool__ __iter__"},
+    "marks": {"Marks": "within __eq__ __and__"},
+}
+
+
+class Interface(unittest.TestCase):
+
+    def test_functions(self):
+        for file, names in FUNCTIONS.items():
+            module = importlib.import_module(f"twinrope.{file}")
+            for name, parameters in names.items():
+                function = getattr(module, name)
+                self.assertEqual(function.__module__, f"twinrope.{file}")
+                self.assertEqual(list(inspect.signature(function).parameters), parameters.split())
+
+    def test_classes(self):
+        for file, names in CLASSES.items():
+            module = importlib.import_module(f"twinrope.{file}")
+            for name, methods in names.items():
+                shape = getattr(module, name)
+                self.assertEqual(shape.__module__, f"twinrope.{file}")
+                for method in methods.split():
+                    self.assertIn(method, vars(shape))
+
+    def test_properties_and_class_methods(self):
+        for name in ("is_tree", "is_ring", "is_row"):
+            self.assertIsInstance(vars(Net)[name], property)
+        for name in ("red_total", "blue_total"):
+            self.assertIsInstance(vars(Standing)[name], property)
+        for shape, name in ((Net, "row"), (Net, "ring"), (Net, "star"), (Standing, "gathered")):
+            self.assertIsInstance(vars(shape)[name], classmethod)
+
+    def test_a_trip_has_a_truth(self):
+        self.assertEqual([bool(Trip([])), bool(Trip([(0, "red")]))], [False, True])
+
+    def test_generators(self):
+        self.assertTrue(inspect.isgeneratorfunction(
+            importlib.import_module("twinrope.standings").every_standing))
+
+
+if __name__ == "__main__":
+    unittest.main()
