@@ -236,3 +236,66 @@ def side_of(net, start, rope):
     """The stations on the side of `start` if the rope is taken away."""
     pairs = [pair for other, pair in enumerate(net.ropes) if other != rope]
     return closure([start], pairs + [(end, begin) for begin, end in pairs])
+
+
+def ropes_from(net, home):
+    """How many ropes each station is away from home."""
+    far = {home: 0}
+    while len(far) < net.stations:
+        for start, end in net.ropes + tuple((end, start) for start, end in net.ropes):
+            if start in far and far.get(end, net.stations) > far[start] + 1:
+                far[end] = far[start] + 1
+    return [far[station] for station in range(net.stations)]
+
+
+def moves_home(net, place, far):
+    """The moves whose guest is nearer home after them."""
+    found = []
+    for ride, after in moves(net, place):
+        guests = 0 if ride[1] == "red" else 1
+        start, end = sorted(net.ropes[ride[0]], key=lambda station: after[guests][station] - place[guests][station])
+        if far[end] < far[start]:
+            found.append((ride, after))
+    return found
+
+
+def homeward_end(net, place, home):
+    """The only place without moves home that they lead to, and how many there are, whatever the order."""
+    far = ropes_from(net, home)
+    level, depth = {place}, 0
+    while True:
+        after = [moves_home(net, here, far) for here in sorted(level)]
+        if not all(after):
+            assert not any(after) and len(level) == 1
+            return level.pop(), depth
+        level = {there for found in after for _, there in found}
+        depth += 1
+
+
+def some_homeward_end(net, place, home, rng):
+    """The same, by one order that the random source gives."""
+    far = ropes_from(net, home)
+    depth = 0
+    found = moves_home(net, place, far)
+    while found:
+        place = rng.choice(found)[1]
+        depth += 1
+        found = moves_home(net, place, far)
+    return place, depth
+
+
+def some_tree(stations, rng):
+    """A tree whose ropes are turned and ordered as the random source gives."""
+    names = list(range(stations))
+    rng.shuffle(names)
+    ropes = [(names[rng.randrange(k)], names[k]) for k in range(1, stations)]
+    ropes = [pair[::-1] if rng.randrange(2) else pair for pair in ropes]
+    rng.shuffle(ropes)
+    return Net(stations, ropes)
+
+
+def number_rows(ropes, reds, blues):
+    """All rows of numbers that need at most these totals, in ascending order."""
+    every = product(range(-1 - blues, reds + 1), repeat=ropes)
+    return [row for row in every
+            if sum(J for J in row if J >= 0) <= reds and sum(-1 - J for J in row if J < 0) <= blues]

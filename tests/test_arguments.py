@@ -7,12 +7,19 @@ from oracle import great_net, great_tree
 from twinrope.arrows import (arrows_of, blue_reach, can_meet, dead_stations, live_parts, live_ropes, meet_row,
                              meeting_way, red_reach)
 from twinrope.books import Books, books_of
+from twinrope.counts import choose, kind_count, meeting_count
 from twinrope.errors import NoColour, NoRope, NoStation
+from twinrope.homeward import (from_numbers, homeward_rides, homeward_row, homeward_standing, numbers_of,
+                               numbers_of_books, rehome, standing_of_books)
 from twinrope.kinship import are_alike, difference_of
 from twinrope.least import crossings_of, least_number, least_row, useful_rides
 from twinrope.marks import Marks, border_holds, dead_by, marks_hold, marks_of, still_by
 from twinrope.nets import Net
+from twinrope.ranks import every_kind, kind_at, kind_rank, next_numbers, numbers_at, rank_of
 from twinrope.rides import after_ride, can_ride, end_of, rides_from, walk
+from twinrope.runs import colours_of_runs, least_fare, runs_between, sure_ropes, trip_fare
+from twinrope.sizes import busiest, gather_row, kind_size, members, most_at, size_by_cars
+from twinrope.slopes import slope_homeward, slope_kind_count, slope_numbers, slope_rides, slope_tree, slopes_of
 from twinrope.standings import Standing, every_standing, standing_count
 from twinrope.texts import read_standing, read_trip, write_standing, write_trip
 from twinrope.trees import beyond, toward, way_between
@@ -61,6 +68,35 @@ MARKS = Marks([0, 1], [3, 4])
 
 def calls():
     """Pairs of a function and a list of its arguments, at least one for each entry of the interface."""
+    return world_calls() + kind_calls()
+
+
+def kind_calls():
+    """The calls for points 27 to 37."""
+    slopes = Standing(Net(3, [(2, 1), (0, 1), (1, 2)]), [0, 0, 2], [1, 0, 0], [0, 1, 1])
+    found = [
+        (runs_between, [FIRST, SECOND]), (sure_ropes, [FIRST, SECOND]), (colours_of_runs, [FIRST, SECOND, 0]),
+        (trip_fare, [[1, 2, 3], [4, 5, 6], list(RIDES)]), (least_fare, [FIRST, SECOND, [1, 2, 3], [4, 5, 6]]),
+        (from_numbers, [TREE, 1, [0, 1, -2], 3, 2]), (numbers_of_books, [TREE, 1, Books([0, 1, 2, -2])]),
+        (standing_of_books, [TREE, books_of(FIRST), 2, 1]), (standing_of_books, [TREE, books_of(FIRST), 1, 1]),
+        (rehome, [TREE, 1, [0, 1, -2], 3, 2, 3]), (choose, [5, 2]), (kind_count, [3, 2, 1]),
+        (meeting_count, [3, 2, 1]), (rank_of, [[0, 1, -2], 3, 2]), (numbers_at, [7, 3, 3, 2]),
+        (next_numbers, [[0, 1, -2], 3, 2]), (kind_at, [TREE, 1, 5, 3, 2]),
+        (lambda *args: list(every_kind(*args)), [TREE, 1, 1, 1]), (size_by_cars, [FIRST, [1, 1, 0]]),
+        (kind_size, [slopes]), (lambda *args: list(members(*args)), [slopes]), (slopes_of, [slopes.net]),
+        (slopes_of, [GREAT.net]), (slope_tree, [slopes.net]), (slope_homeward, [slopes, 1]),
+        (slope_numbers, [slopes, 1]), (slope_rides, [slopes, 1]), (slope_kind_count, [[1, 2], 2, 1]),
+        (lambda *args: list(members(*args)), [NEVER]),
+    ]
+    for here in (FIRST, NEVER, WIDE):
+        for entry in (homeward_rides, homeward_row, homeward_standing, numbers_of, kind_rank, most_at, gather_row):
+            found.append((entry, [here, 2]))
+        found += [(kind_size, [here]), (busiest, [here])]
+    return found
+
+
+def world_calls():
+    """The calls for points 7 to 26."""
     found = [
         (Net, [4, [(0, 1), (2, 1), (1, 3)]]), (Net.row, [4]), (Net.ring, [4]), (Net.star, [4]), (TREE.ends, [1]),
         (TREE.other_end, [1, 2]), (TREE.ropes_at, [1]), (repr, [TREE]),

@@ -24,6 +24,21 @@ FUNCTIONS = {
     "trees": {"beyond": "net home rope", "toward": "net home", "way_between": "net start end"},
     "least": {"crossings_of": "first second", "least_number": "first second", "useful_rides": "standing goal",
               "least_row": "first second"},
+    "runs": {"runs_between": "first second", "sure_ropes": "first second", "colours_of_runs": "first second rope",
+             "trip_fare": "red_fares blue_fares rides", "least_fare": "first second red_fares blue_fares"},
+    "homeward": {"homeward_rides": "standing home", "homeward_row": "standing home",
+                 "homeward_standing": "standing home", "numbers_of": "standing home",
+                 "from_numbers": "net home numbers reds blues", "numbers_of_books": "net home books",
+                 "standing_of_books": "net books reds blues", "rehome": "net home numbers reds blues new_home"},
+    "counts": {"choose": "n k", "kind_count": "ropes reds blues", "meeting_count": "ropes reds blues"},
+    "ranks": {"rank_of": "numbers reds blues", "numbers_at": "rank ropes reds blues",
+              "next_numbers": "numbers reds blues", "kind_rank": "standing home",
+              "kind_at": "net home rank reds blues", "every_kind": "net home reds blues"},
+    "sizes": {"size_by_cars": "standing cars", "kind_size": "standing", "members": "standing",
+              "most_at": "standing station", "gather_row": "standing station", "busiest": "standing"},
+    "slopes": {"slopes_of": "net", "slope_tree": "net", "slope_homeward": "standing home",
+               "slope_numbers": "standing home", "slope_rides": "standing home",
+               "slope_kind_count": "widths reds blues"},
 }
 CLASSES = {
     "nets": {"Net": "row ring star ends other_end ropes_at is_tree is_ring is_row __eq__ __repr__"},
@@ -65,8 +80,8 @@ class Interface(unittest.TestCase):
         self.assertEqual([bool(Trip([])), bool(Trip([(0, "red")]))], [False, True])
 
     def test_generators(self):
-        self.assertTrue(inspect.isgeneratorfunction(
-            importlib.import_module("twinrope.standings").every_standing))
+        for file, name in (("standings", "every_standing"), ("ranks", "every_kind"), ("sizes", "members")):
+            self.assertTrue(inspect.isgeneratorfunction(getattr(importlib.import_module(f"twinrope.{file}"), name)))
 
 
 if __name__ == "__main__":

@@ -47,6 +47,12 @@ def dead_stations(standing):
     return [station for station in range(standing.net.stations) if station not in reached]
 
 
+def dead_ropes(standing):
+    """The ropes whose two ends are dead."""
+    dead = dead_stations(standing)
+    return [rope for rope, (start, end) in enumerate(standing.net.ropes) if start in dead and end in dead]
+
+
 def live_ropes(standing):
     ropes = range(len(standing.net.ropes))
     if can_meet(standing):

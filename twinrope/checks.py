@@ -1,6 +1,6 @@
 """The checks of arguments that many functions share (point 4)."""
 
-from twinrope.errors import NoColour, NoRope, NoStation, NotATree, OtherNet
+from twinrope.errors import BadFare, NoColour, NoRope, NoStation, NotARing, NotARow, NotATree, OtherNet
 
 COLOURS = ("red", "blue")
 
@@ -8,6 +8,16 @@ COLOURS = ("red", "blue")
 def check_tree(net):
     if not net.is_tree:
         raise NotATree()
+
+
+def check_ring(net):
+    if not net.is_ring:
+        raise NotARing()
+
+
+def check_row(net):
+    if not net.is_row:
+        raise NotARow()
 
 
 def check_same_net(first, second):
@@ -21,16 +31,33 @@ def check_station(net, station):
 
 
 def check_rope(net, rope):
-    if not 0 <= rope < len(net.ropes):
+    check_rope_of(len(net.ropes), rope)
+
+
+def check_rope_of(ropes, rope):
+    if not 0 <= rope < ropes:
         raise NoRope(rope)
+
+
+def check_colour(colour):
+    if colour not in COLOURS:
+        raise NoColour(colour)
 
 
 def check_ride(net, rope, colour):
     check_rope(net, rope)
-    if colour not in COLOURS:
-        raise NoColour(colour)
+    check_colour(colour)
 
 
 def check_rides(net, rides):
     for rope, colour in rides:
         check_ride(net, rope, colour)
+
+
+def check_fares(ropes, fares, least):
+    """Fares are a list of integers of at least `least`, one for each rope."""
+    if len(fares) != ropes:
+        raise BadFare(-1)
+    for rope, fare in enumerate(fares):
+        if fare < least:
+            raise BadFare(rope)

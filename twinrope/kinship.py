@@ -1,6 +1,6 @@
 """Which standings come of which (point 17)."""
 
-from twinrope.arrows import dead_stations
+from twinrope.arrows import dead_ropes
 from twinrope.books import books_of
 from twinrope.checks import check_same_net
 from twinrope.errors import Apart
@@ -15,9 +15,8 @@ def difference_of(first, second):
     for station in range(first.net.stations):
         if ones[station] != twos[station]:
             return "book", station, ones[station], twos[station]
-    dead = dead_stations(first)
-    for rope, (start, end) in enumerate(first.net.ropes):
-        if start in dead and end in dead and first.cars[rope] != second.cars[rope]:
+    for rope in dead_ropes(first):
+        if first.cars[rope] != second.cars[rope]:
             return "rope", rope
     return None
 
