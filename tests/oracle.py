@@ -34,6 +34,12 @@ OTHERS = [
     Net(4, [(0, 1), (1, 2), (2, 3), (3, 1)]),
     Net(4, [(0, 1), (1, 2), (2, 3), (3, 0), (0, 2)]),
 ]
+# Circles that hang on a row, so that there may be no guest on them.
+CIRCLES = [
+    Net(4, [(0, 1), (1, 2), (2, 3), (3, 2)]),
+    Net(5, [(0, 1), (1, 2), (2, 3), (3, 4), (4, 2)]),
+    Net(4, [(0, 1), (1, 0), (1, 2), (3, 2), (2, 3)]),
+]
 SMALL_NETS = TREES + RINGS + OTHERS
 TOTALS = [(0, 0), (1, 0), (0, 1), (1, 1), (2, 0), (2, 1), (1, 2)]
 
@@ -292,6 +298,26 @@ def some_tree(stations, rng):
     ropes = [pair[::-1] if rng.randrange(2) else pair for pair in ropes]
     rng.shuffle(ropes)
     return Net(stations, ropes)
+
+
+def row_counts(net, place, rides):
+    """The crossings of each rope from its first end, less the other way, of red and of blue guests; and the end."""
+    reds, blues = [0] * len(net.ropes), [0] * len(net.ropes)
+    for rope, colour in rides:
+        after = dict(moves(net, place))[rope, colour]
+        guests = 0 if colour == "red" else 1
+        (reds, blues)[guests][rope] += place[guests][net.ropes[rope][0]] - after[guests][net.ropes[rope][0]]
+        place = after
+    return reds, blues, place
+
+
+def walked(net, place, rides):
+    """The last place of the walk, or None if a ride is not possible."""
+    for ride in rides:
+        place = dict(moves(net, place)).get(ride)
+        if place is None:
+            return None
+    return place
 
 
 def number_rows(ropes, reds, blues):

@@ -6,17 +6,23 @@ from case import FAR, Case
 from oracle import great_net, great_tree
 from twinrope.arrows import (arrows_of, blue_reach, can_meet, dead_stations, live_parts, live_ropes, meet_row,
                              meeting_way, red_reach)
+from twinrope.between import between_count, diameter, every_between, is_between
+from twinrope.bills import Bill, bill_of
 from twinrope.books import Books, books_of
 from twinrope.counts import choose, kind_count, meeting_count
 from twinrope.errors import NoColour, NoRope, NoStation
+from twinrope.floors import floor_number, floor_paper, paper_holds
 from twinrope.homeward import (from_numbers, homeward_rides, homeward_row, homeward_standing, numbers_of,
                                numbers_of_books, rehome, standing_of_books)
 from twinrope.kinship import are_alike, difference_of
+from twinrope.lattice import Profile, leftmost, lower, median, profile_of, rightmost, standing_at, upper
 from twinrope.least import crossings_of, least_number, least_row, useful_rides
 from twinrope.marks import Marks, border_holds, dead_by, marks_hold, marks_of, still_by
 from twinrope.nets import Net
+from twinrope.plans import plan_of, range_of_rows
 from twinrope.ranks import every_kind, kind_at, kind_rank, next_numbers, numbers_at, rank_of
 from twinrope.rides import after_ride, can_ride, end_of, rides_from, walk
+from twinrope.rings import (best_turns, ring_bill, ring_cost, ring_number, ring_order, ring_row, ring_useful, turn_of)
 from twinrope.runs import colours_of_runs, least_fare, runs_between, sure_ropes, trip_fare
 from twinrope.sizes import busiest, gather_row, kind_size, members, most_at, size_by_cars
 from twinrope.slopes import slope_homeward, slope_kind_count, slope_numbers, slope_rides, slope_tree, slopes_of
@@ -24,6 +30,7 @@ from twinrope.standings import Standing, every_standing, standing_count
 from twinrope.texts import read_standing, read_trip, write_standing, write_trip
 from twinrope.trees import beyond, toward, way_between
 from twinrope.trips import Trip
+from twinrope.verdicts import can_take, verdict_holds, verdict_of
 from twinrope.visits import run_rope, visit_row
 
 
@@ -39,6 +46,10 @@ def plain(value):
         return "books", plain(value.entries)
     if isinstance(value, Marks):
         return "marks", plain(value.red_side), plain(value.blue_side)
+    if isinstance(value, Profile):
+        return "profile", plain(value.reds), plain(value.blues)
+    if isinstance(value, Bill):
+        return "bill", plain(value.net), plain(value.reds), plain(value.blues)
     if isinstance(value, (list, tuple)):
         return type(value).__name__, tuple(plain(item) for item in value)
     return value
@@ -68,7 +79,49 @@ MARKS = Marks([0, 1], [3, 4])
 
 def calls():
     """Pairs of a function and a list of its arguments, at least one for each entry of the interface."""
-    return world_calls() + kind_calls()
+    return world_calls() + kind_calls() + row_calls() + net_calls()
+
+
+def row_calls():
+    """The calls for points 38 to 43."""
+    one = Standing(Net.row(4), [2, 0, 0, 0], [1, 0, 0, 0], [0, 0, 0])
+    two = end_of(one, (0, "red"), (0, "blue"), (1, "red"), (0, "red"))
+    three = end_of(one, (0, "red"), (1, "red"), (2, "red"))
+    first = Standing(Net.ring(4), [2, 0, 0, 0], [1, 0, 0, 0], [0, 0, 0, 0])
+    rides = [(0, "red"), (0, "blue"), (0, "red"), (1, "red")]
+    second = end_of(first, *rides)
+    found = [
+        (Profile, [[1, 2], [3, 4]]), (Profile([1, 2], [3, 4]).is_below, [Profile([1, 2], [3, 5])]),
+        (profile_of, [one]), (standing_at, [one, profile_of(two)]), (median, [one, two, three]), (leftmost, [two]),
+        (rightmost, [two]), (is_between, [one, two, three]), (diameter, [one]), (ring_order, [first.net]),
+        (ring_bill, [first, second, 3]), (ring_cost, [first, second, 3]), (turn_of, [first, list(rides)]),
+    ]
+    for entry in (lower, upper, between_count, lambda *args: list(every_between(*args))):
+        found.append((entry, [three, two]))
+    for entry in (best_turns, ring_number, ring_useful, ring_row):
+        found.append((entry, [first, second]))
+    return found
+
+
+def net_calls():
+    """The calls for points 44 to 50."""
+    net = Net(4, [(0, 1), (1, 2), (2, 3), (3, 2)])
+    first = Standing(net, [1, 0, 0, 0], [0] * 4, [0, 0, 0, 0])
+    second = Standing(net, [0, 1, 0, 0], [0] * 4, [1, 0, 1, 1])
+    still = [Standing(net, [1, 0, 0, 0], [0] * 4, [1, 0, car, car]) for car in (0, 1)]
+    bill, levels = floor_paper(first, second)
+    found = [
+        (Bill, [net, [1, 2, 3, 4], [5, 6, 7, 8]]), (bill.cost, [[1, 2, 3, 4]]), (bill.leads, [first, second]),
+        (bill_of, [FIRST, list(RIDES)]), (paper_holds, [first, second, bill, levels]),
+        (lambda *args: floor_number(*args[:2], prices=args[2]), [first, second, [1, 2, 3, 4]]),
+        (lambda *args: floor_paper(*args[:2], prices=args[2]), [first, second, [1, 2, 3, 4]]),
+        (lambda *args: paper_holds(*args[:4], prices=args[4]), [first, second, bill, levels, [1, 2, 3, 4]]),
+        (verdict_of, still), (verdict_holds, still + [verdict_of(*still)]), (can_take, [FIRST, SECOND, 4]),
+        (verdict_holds, [FIRST, SECOND, ("alike", list(RIDES))]), (verdict_of, [FIRST, APART]),
+    ]
+    for entry in (floor_number, floor_paper, plan_of, range_of_rows, verdict_of):
+        found += [(entry, [first, second]), (entry, [FIRST, SECOND]), (entry, [GREAT, GREAT])]
+    return found
 
 
 def kind_calls():
@@ -153,9 +206,11 @@ class Arguments(Case):
         here = Standing(net, reds, blues, cars)
         rides, entries, sides = [(0, "red")], [1, 2], ([1, 0], [2])
         trip, books, marks = Trip(rides), Books(entries), Marks(*sides)
-        kept = plain([net, here, trip, books, marks])
-        spoil([ropes, reds, blues, cars, rides, entries, sides])
-        self.assertEqual(plain([net, here, trip, books, marks]), kept)
+        above, crossed = ([1, 2], [3, 4]), ([5, 6], [7, 8])
+        made = [net, here, trip, books, marks, Profile(*above), Bill(net, *crossed)]
+        kept = plain(made)
+        spoil([ropes, reds, blues, cars, rides, entries, sides, above, crossed])
+        self.assertEqual(plain(made), kept)
         self.assertEqual(net, Net(3, [(0, 1), (1, 2)]))
         self.assertEqual(here, Standing(Net.row(3), [1, 0, 0], [0, 0, 1], [0, 1]))
         self.assertEqual((trip, books, marks), (Trip([(0, "red")]), Books([1, 2]), Marks([0, 1], [2])))
@@ -171,7 +226,8 @@ class Arguments(Case):
 class Equality(Case):
 
     def test_an_object_beside_a_value_of_another_class(self):
-        objects = [Net(1, []), Standing(Net(1, []), [0], [0], []), Trip([]), Books([]), Books([0]), Marks([], [])]
+        objects = [Net(1, []), Standing(Net(1, []), [0], [0], []), Trip([]), Books([]), Books([0]), Marks([], []),
+                   Profile([], []), Bill(Net(1, []), [], [])]
         others = [None, 0, "", "x", (), [], {}, True, (0,), [0], ((), ()), (0, 0), (1, ()), {1}]
         for place, one in enumerate(objects):
             for other in others + objects[:place] + objects[place + 1:]:

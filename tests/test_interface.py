@@ -39,6 +39,19 @@ FUNCTIONS = {
     "slopes": {"slopes_of": "net", "slope_tree": "net", "slope_homeward": "standing home",
                "slope_numbers": "standing home", "slope_rides": "standing home",
                "slope_kind_count": "widths reds blues"},
+    "lattice": {"profile_of": "standing", "standing_at": "standing profile", "lower": "first second",
+                "upper": "first second", "median": "first second third", "leftmost": "standing",
+                "rightmost": "standing"},
+    "between": {"is_between": "first middle second", "between_count": "first second", "every_between": "first second",
+                "diameter": "standing"},
+    "rings": {"ring_order": "net", "ring_bill": "first second turn", "ring_cost": "first second turn",
+              "turn_of": "standing rides", "best_turns": "first second", "ring_number": "first second",
+              "ring_useful": "standing goal", "ring_row": "first second"},
+    "bills": {"bill_of": "standing rides"},
+    "floors": {"floor_number": "first second prices", "floor_paper": "first second prices",
+               "paper_holds": "first second bill levels prices"},
+    "plans": {"plan_of": "first second", "range_of_rows": "first second"},
+    "verdicts": {"verdict_of": "first second", "verdict_holds": "first second claim", "can_take": "first second count"},
 }
 CLASSES = {
     "nets": {"Net": "row ring star ends other_end ropes_at is_tree is_ring is_row __eq__ __repr__"},
@@ -46,6 +59,8 @@ CLASSES = {
     "trips": {"Trip": "reduced tally __add__ __invert__ __eq__ __len__ __getitem__ __iter__"},
     "books": {"Books": "total __add__ __sub__ __neg__ __eq__ __len__ __getitem__ __bool__ __iter__"},
     "marks": {"Marks": "within __eq__ __and__"},
+    "lattice": {"Profile": "is_below __eq__ __and__ __or__"},
+    "bills": {"Bill": "cost leads __add__ __sub__ __neg__ __eq__"},
 }
 
 
@@ -58,6 +73,11 @@ class Interface(unittest.TestCase):
                 function = getattr(module, name)
                 self.assertEqual(function.__module__, f"twinrope.{file}")
                 self.assertEqual(list(inspect.signature(function).parameters), parameters.split())
+
+    def test_prices_are_passed_by_name(self):
+        for name in ("floor_number", "floor_paper", "paper_holds"):
+            spec = inspect.getfullargspec(getattr(importlib.import_module("twinrope.floors"), name))
+            self.assertEqual((spec.kwonlyargs, spec.kwonlydefaults), (["prices"], {"prices": None}))
 
     def test_classes(self):
         for file, names in CLASSES.items():
@@ -80,7 +100,8 @@ class Interface(unittest.TestCase):
         self.assertEqual([bool(Trip([])), bool(Trip([(0, "red")]))], [False, True])
 
     def test_generators(self):
-        for file, name in (("standings", "every_standing"), ("ranks", "every_kind"), ("sizes", "members")):
+        for file, name in (("standings", "every_standing"), ("ranks", "every_kind"), ("sizes", "members"),
+                           ("between", "every_between")):
             self.assertTrue(inspect.isgeneratorfunction(getattr(importlib.import_module(f"twinrope.{file}"), name)))
 
 

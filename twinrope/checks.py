@@ -1,6 +1,6 @@
 """The checks of arguments that many functions share (point 4)."""
 
-from twinrope.errors import BadFare, NoColour, NoRope, NoStation, NotARing, NotARow, NotATree, OtherNet
+from twinrope.errors import BadFare, NoColour, NoRope, NoStation, NotARing, NotARow, NotATree, NotExact, OtherNet
 
 COLOURS = ("red", "blue")
 
@@ -18,6 +18,12 @@ def check_ring(net):
 def check_row(net):
     if not net.is_row:
         raise NotARow()
+
+
+def check_exact(net):
+    """On a tree and on a ring the least numbers of rides are known."""
+    if not net.is_tree and not net.is_ring:
+        raise NotExact()
 
 
 def check_same_net(first, second):

@@ -4,10 +4,9 @@ from math import comb
 
 from twinrope.arrows import dead_ropes
 from twinrope.books import books_of
-from twinrope.checks import check_tree
 from twinrope.errors import TooMany
 from twinrope.homeward import homeward_row, homeward_standing, tree_ways
-from twinrope.standings import MOST_LISTED, Standing, check_cars, every_cars, shares
+from twinrope.standings import MOST_LISTED, check_cars, every_cars, shares, standing_of_key
 
 MOST_FREE_ROPES = 14
 
@@ -101,9 +100,8 @@ def members(standing):
         raise TooMany(MOST_FREE_ROPES)
     if kind_size(standing) > MOST_LISTED:
         raise TooMany(MOST_LISTED)
-    many = standing.net.stations
     for key in sorted(member_keys(standing)):
-        yield Standing(standing.net, key[:many], key[many:2 * many], key[2 * many:])
+        yield standing_of_key(standing.net, key)
 
 
 def member_keys(standing):
@@ -130,6 +128,5 @@ def gather_row(standing, station):
 
 
 def busiest(standing):
-    check_tree(standing.net)
-    pairs = [min(most_at(standing, station)) for station in range(standing.net.stations)]
-    return pairs.index(max(pairs))
+    smaller = [min(most_at(standing, station)) for station in range(standing.net.stations)]
+    return smaller.index(max(smaller))

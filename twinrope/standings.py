@@ -61,6 +61,11 @@ class Standing:
         return Standing(self.net, self.blues, self.reds, [1 - car for car in self.cars])
 
 
+def standing_of_key(net, key):
+    many = net.stations
+    return Standing(net, key[:many], key[many:2 * many], key[2 * many:])
+
+
 def check_guests(net, part, guests):
     if len(guests) != net.stations:
         raise BadStanding(part, -1)

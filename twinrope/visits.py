@@ -9,7 +9,7 @@ from twinrope.ways import rope_steps, shortest_way, turned
 
 def visit_row(standing, station):
     check_station(standing.net, station)
-    rows = [lone_row(standing, station, colour) for colour in COLOURS]
+    rows = [lone_row(standing, [station], colour) for colour in COLOURS]
     found = [row for row in rows if row is not None]
     if found:
         return min(found, key=len)
@@ -23,7 +23,7 @@ def run_rope(standing, rope):
     check_rope(standing.net, rope)
     found = []
     for colour in COLOURS:
-        row = lone_row(standing, car_of(standing, rope, colour), colour)
+        row = lone_row(standing, [car_of(standing, rope, colour)], colour)
         if row is not None:
             found.append(row + [(rope, colour)])
     if found:
@@ -37,12 +37,12 @@ def run_rope(standing, rope):
     return row + [(rope, "blue")]
 
 
-def lone_row(standing, station, colour):
-    """A shortest row in which one guest rides alone to the station, or None if none can."""
+def lone_row(standing, goals, colour):
+    """A shortest row in which one guest rides alone to one of the goals, or None if none can."""
     steps = arrow_steps(standing)
     if colour == "blue":
         steps = turned(steps)
-    way = shortest_way(stations_with(guests_of(standing, colour)), [station], steps)
+    way = shortest_way(stations_with(guests_of(standing, colour)), goals, steps)
     if way is None:
         return None
     return [(rope, colour) for rope in way[1]]
