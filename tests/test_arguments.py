@@ -4,6 +4,7 @@ import unittest
 
 from case import FAR, Case
 from oracle import great_net, great_tree
+from plain import plain, spoil
 from twinrope.arrows import (arrows_of, blue_reach, can_meet, dead_stations, live_parts, live_ropes, meet_row,
                              meeting_way, red_reach)
 from twinrope.between import between_count, diameter, every_between, is_between
@@ -32,38 +33,6 @@ from twinrope.trees import beyond, toward, way_between
 from twinrope.trips import Trip
 from twinrope.verdicts import can_take, verdict_holds, verdict_of
 from twinrope.visits import run_rope, visit_row
-
-
-def plain(value):
-    """The value without any list or object that could be changed later."""
-    if isinstance(value, Net):
-        return "net", value.stations, plain(value.ropes)
-    if isinstance(value, Standing):
-        return "standing", plain(value.net), plain(value.reds), plain(value.blues), plain(value.cars)
-    if isinstance(value, Trip):
-        return "trip", plain(value.rides)
-    if isinstance(value, Books):
-        return "books", plain(value.entries)
-    if isinstance(value, Marks):
-        return "marks", plain(value.red_side), plain(value.blue_side)
-    if isinstance(value, Profile):
-        return "profile", plain(value.reds), plain(value.blues)
-    if isinstance(value, Bill):
-        return "bill", plain(value.net), plain(value.reds), plain(value.blues)
-    if isinstance(value, (list, tuple)):
-        return type(value).__name__, tuple(plain(item) for item in value)
-    return value
-
-
-def spoil(value):
-    """Changes every list in the value, also inside of lists and tuples."""
-    if isinstance(value, (list, tuple)):
-        for item in list(value):
-            spoil(item)
-    if isinstance(value, list):
-        value.reverse()
-        value.append("spoilt")
-        value.insert(0, "spoilt")
 
 
 TREE = Net(4, [(0, 1), (2, 1), (1, 3)])

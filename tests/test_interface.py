@@ -4,6 +4,9 @@ import importlib
 import inspect
 import unittest
 
+from twinrope.blind import Blind
+from twinrope.crowds import Crowd
+from twinrope.houses import House
 from twinrope.nets import Net
 from twinrope.standings import Standing
 from twinrope.trips import Trip
@@ -52,6 +55,12 @@ FUNCTIONS = {
                "paper_holds": "first second bill levels prices"},
     "plans": {"plan_of": "first second", "range_of_rows": "first second"},
     "verdicts": {"verdict_of": "first second", "verdict_holds": "first second claim", "can_take": "first second count"},
+    "layers": {"layers_of": "standing", "twin_number": "first second"},
+    "crowds": {"ride_named": "crowd rope name", "walk_named": "crowd rides"},
+    "companions": {"named_difference": "first second", "companions": "crowd name", "named_count": "crowd"},
+    "exchanges": {"exchange_row": "crowd one other", "border_of": "crowd name", "named_plan": "first second"},
+    "blind": {"blind_of": "standing", "blind_difference": "first second", "blind_number": "first second",
+              "blind_row": "first second", "blind_plan": "first second"},
 }
 CLASSES = {
     "nets": {"Net": "row ring star ends other_end ropes_at is_tree is_ring is_row __eq__ __repr__"},
@@ -61,7 +70,12 @@ CLASSES = {
     "marks": {"Marks": "within __eq__ __and__"},
     "lattice": {"Profile": "is_below __eq__ __and__ __or__"},
     "bills": {"Bill": "cost leads __add__ __sub__ __neg__ __eq__"},
+    "crowds": {"Crowd": "names place_of colour_of standing __eq__ __len__ __contains__"},
+    "houses": {"House": "words steps step_to walk_steps same_kind kind_total groups"},
+    "blind": {"Blind": "words steps step_to same_kind kind_total groups"},
 }
+HOUSE = {"words": "", "steps": "standing", "step_to": "standing rope word", "walk_steps": "standing steps",
+         "same_kind": "first second", "kind_total": "net reds blues", "groups": "net reds blues"}
 
 
 class Interface(unittest.TestCase):
@@ -98,6 +112,20 @@ class Interface(unittest.TestCase):
 
     def test_a_trip_has_a_truth(self):
         self.assertEqual([bool(Trip([])), bool(Trip([(0, "red")]))], [False, True])
+
+    def test_houses(self):
+        words = {"House": "coloured", "Blind": "blind"}
+        for shape in (House, Blind):
+            self.assertEqual(vars(shape)["WORD"], words[shape.__name__])
+            self.assertTrue(issubclass(shape, House))
+            self.assertIsInstance(shape().words(), tuple)
+
+    def test_parameters_of_methods(self):
+        for shape, names in ((Crowd, {"__init__": "net cars reds blues", "names": "colour", "place_of": "name",
+                                      "colour_of": "name", "standing": ""}), (House, HOUSE), (Blind, HOUSE)):
+            for method, parameters in names.items():
+                found = list(inspect.signature(getattr(shape, method)).parameters)[1:]
+                self.assertEqual(found, parameters.split())
 
     def test_generators(self):
         for file, name in (("standings", "every_standing"), ("ranks", "every_kind"), ("sizes", "members"),

@@ -4,7 +4,7 @@ from twinrope.arrows import arrow_steps, can_meet, meet_row, meeting_way, statio
 from twinrope.checks import COLOURS, check_rope, check_station
 from twinrope.errors import Dead, Still
 from twinrope.rides import can_ride, car_of, end_of, guests_of
-from twinrope.ways import rope_steps, shortest_way, turned
+from twinrope.ways import end_of_way, rope_steps, shortest_way, turned
 
 
 def visit_row(standing, station):
@@ -49,25 +49,29 @@ def lone_row(standing, goals, colour):
 
 
 def pair_row(standing, goals):
-    """A row in which a red and a blue guest meet, and then ride to the nearest goal together.
-
-    One of them always has a car at hand, and brings the other car for the other guest.
-    """
+    """A row in which a red and a blue guest meet, and then ride to the nearest goal together."""
     row = meet_row(standing)
     here = end_of(standing, *row)
     place = meeting_place(standing)
     ropes = shortest_way([place], goals, rope_steps(standing.net.ropes))[1]
+    return row + pair_rides(here, place, ropes)
+
+
+def pair_rides(standing, place, ropes):
+    """The rides in which a red and a blue guest at the place ride over the ropes of a way together.
+
+    One of them always has a car at hand, and brings the other car for the other guest. So the cars stand as before.
+    """
+    row = []
     for rope in ropes:
-        if here.red_car(rope) == place:
-            row = row + [(rope, "red"), (rope, "blue")]
+        if standing.red_car(rope) == place:
+            row.extend([(rope, "red"), (rope, "blue")])
         else:
-            row = row + [(rope, "blue"), (rope, "red")]
+            row.extend([(rope, "blue"), (rope, "red")])
         place = standing.net.other_end(rope, place)
     return row
 
 
 def meeting_place(standing):
-    place, ropes = meeting_way(standing)
-    for rope in ropes:
-        place = standing.net.other_end(rope, place)
-    return place
+    start, ropes = meeting_way(standing)
+    return end_of_way(standing.net, start, ropes)

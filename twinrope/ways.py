@@ -59,3 +59,11 @@ def shortest_way(starts, goals, steps):
 def least_step(here, left, far, steps):
     """The tuple (rope, start, end) with the least rope after which `left` steps are left."""
     return min([(rope, start, end) for start, end, rope in steps if start in here and far.get(end) == left])
+
+
+def end_of_way(net, start, ropes):
+    """The station to which these ropes lead, one after another."""
+    place = start
+    for rope in ropes:
+        place = net.other_end(rope, place)
+    return place
