@@ -4,6 +4,7 @@ from twinrope.bills import Bill
 from twinrope.books import Books
 from twinrope.crowds import Crowd
 from twinrope.lattice import Profile
+from twinrope.lots import Lot
 from twinrope.marks import Marks
 from twinrope.nets import Net
 from twinrope.standings import Standing
@@ -28,6 +29,8 @@ def plain(value):
         return "bill", plain(value.net), plain(value.reds), plain(value.blues)
     if isinstance(value, Crowd):
         return "crowd", plain(value.net), plain(value.cars), plain(value.reds), plain(value.blues)
+    if isinstance(value, Lot):
+        return "lot", plain(value.first), plain(value.second), plain(value.facts)
     if isinstance(value, (list, tuple)):
         return type(value).__name__, tuple(plain(item) for item in value)
     return value

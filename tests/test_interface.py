@@ -6,9 +6,12 @@ import unittest
 
 from twinrope.blind import Blind
 from twinrope.crowds import Crowd
+from twinrope.desk import Desk
 from twinrope.houses import House
+from twinrope.lots import Lot, closed_lot
 from twinrope.nets import Net
 from twinrope.standings import Standing
+from twinrope.together import Together
 from twinrope.trips import Trip
 
 FUNCTIONS = {
@@ -54,13 +57,23 @@ FUNCTIONS = {
     "floors": {"floor_number": "first second prices", "floor_paper": "first second prices",
                "paper_holds": "first second bill levels prices"},
     "plans": {"plan_of": "first second", "range_of_rows": "first second"},
-    "verdicts": {"verdict_of": "first second", "verdict_holds": "first second claim", "can_take": "first second count"},
+    "verdicts": {"verdict_of": "first second", "verdict_holds": "first second claim",
+                 "can_take": "first second count"},
     "layers": {"layers_of": "standing", "twin_number": "first second"},
     "crowds": {"ride_named": "crowd rope name", "walk_named": "crowd rides"},
     "companions": {"named_difference": "first second", "companions": "crowd name", "named_count": "crowd"},
     "exchanges": {"exchange_row": "crowd one other", "border_of": "crowd name", "named_plan": "first second"},
     "blind": {"blind_of": "standing", "blind_difference": "first second", "blind_number": "first second",
               "blind_row": "first second", "blind_plan": "first second"},
+    "together": {"together_difference": "first second", "turn_one": "standing rope", "together_row": "first second"},
+    "parted": {"parted": "one other net reds blues"},
+    "heard": {"heard_count": "standing ropes", "heard_first": "standing ropes", "heard_ends": "standing ropes",
+              "heard_balance": "standing ropes", "heard_reds": "standing ropes station",
+              "heard_to": "standing ropes goal"},
+    "logs": {"log_holds": "first second rides", "odd_ropes": "first second rides", "deletes": "first second rides",
+             "mends": "first second rides", "inserts": "first second rides"},
+    "lots": {"closed_lot": "first second least"},
+    "tables": {"table_of": "standing", "kind_table": "ropes most"},
 }
 CLASSES = {
     "nets": {"Net": "row ring star ends other_end ropes_at is_tree is_ring is_row __eq__ __repr__"},
@@ -73,7 +86,14 @@ CLASSES = {
     "crowds": {"Crowd": "names place_of colour_of standing __eq__ __len__ __contains__"},
     "houses": {"House": "words steps step_to walk_steps same_kind kind_total groups"},
     "blind": {"Blind": "words steps step_to same_kind kind_total groups"},
+    "together": {"Together": "words steps step_to same_kind kind_total"},
+    "lots": {"Lot": "closed facts outcome put replayed __len__ __contains__"},
+    "desk": {"Desk": "now done goal home take undo redo attempt mark back_to set_goal move_home left rank log redo_list "
+                     "marks runs_of probe story advice finish"},
 }
+DEEDS = {"take": "rope colour", "undo": "", "redo": "", "attempt": "rides", "mark": "name", "back_to": "name",
+         "set_goal": "goal", "move_home": "home", "left": "", "rank": "", "log": "", "redo_list": "", "marks": "",
+         "runs_of": "rope", "probe": "rides", "story": "", "advice": "", "finish": "", "__init__": "standing"}
 HOUSE = {"words": "", "steps": "standing", "step_to": "standing rope word", "walk_steps": "standing steps",
          "same_kind": "first second", "kind_total": "net reds blues", "groups": "net reds blues"}
 
@@ -93,6 +113,10 @@ class Interface(unittest.TestCase):
             spec = inspect.getfullargspec(getattr(importlib.import_module("twinrope.floors"), name))
             self.assertEqual((spec.kwonlyargs, spec.kwonlydefaults), (["prices"], {"prices": None}))
 
+    def test_least_is_passed_by_name(self):
+        spec = inspect.getfullargspec(closed_lot)
+        self.assertEqual((spec.kwonlyargs, spec.kwonlydefaults), (["least"], {"least": False}))
+
     def test_classes(self):
         for file, names in CLASSES.items():
             module = importlib.import_module(f"twinrope.{file}")
@@ -107,22 +131,29 @@ class Interface(unittest.TestCase):
             self.assertIsInstance(vars(Net)[name], property)
         for name in ("red_total", "blue_total"):
             self.assertIsInstance(vars(Standing)[name], property)
-        for shape, name in ((Net, "row"), (Net, "ring"), (Net, "star"), (Standing, "gathered")):
+        for name in ("closed", "facts", "outcome"):
+            self.assertIsInstance(vars(Lot)[name], property)
+        for name, setter in (("now", False), ("done", False), ("goal", True), ("home", True)):
+            self.assertIsInstance(vars(Desk)[name], property)
+            self.assertEqual(vars(Desk)[name].fset is not None, setter)
+        for shape, name in ((Lot, "replayed"), (Net, "row"), (Net, "ring"), (Net, "star"), (Standing, "gathered")):
             self.assertIsInstance(vars(shape)[name], classmethod)
 
     def test_a_trip_has_a_truth(self):
         self.assertEqual([bool(Trip([])), bool(Trip([(0, "red")]))], [False, True])
 
     def test_houses(self):
-        words = {"House": "coloured", "Blind": "blind"}
-        for shape in (House, Blind):
+        words = {"House": "coloured", "Blind": "blind", "Together": "together"}
+        for shape in (House, Blind, Together):
             self.assertEqual(vars(shape)["WORD"], words[shape.__name__])
             self.assertTrue(issubclass(shape, House))
             self.assertIsInstance(shape().words(), tuple)
 
     def test_parameters_of_methods(self):
         for shape, names in ((Crowd, {"__init__": "net cars reds blues", "names": "colour", "place_of": "name",
-                                      "colour_of": "name", "standing": ""}), (House, HOUSE), (Blind, HOUSE)):
+                                      "colour_of": "name", "standing": ""}), (House, HOUSE), (Blind, HOUSE),
+                             (Together, HOUSE), (Desk, DEEDS),
+                             (Lot, {"__init__": "first second", "put": "word content uses"})):
             for method, parameters in names.items():
                 found = list(inspect.signature(getattr(shape, method)).parameters)[1:]
                 self.assertEqual(found, parameters.split())
@@ -131,6 +162,7 @@ class Interface(unittest.TestCase):
         for file, name in (("standings", "every_standing"), ("ranks", "every_kind"), ("sizes", "members"),
                            ("between", "every_between")):
             self.assertTrue(inspect.isgeneratorfunction(getattr(importlib.import_module(f"twinrope.{file}"), name)))
+        self.assertTrue(inspect.isgeneratorfunction(Desk.story))
 
 
 if __name__ == "__main__":

@@ -1,4 +1,4 @@
-"""Points 3 to 5 for layers, crowds and houses: arguments, returned lists and the order of errors."""
+"""Points 3 to 5 for all that follows the verdicts: arguments, returned lists, equality and the order of errors."""
 
 import unittest
 
@@ -8,13 +8,20 @@ from plain import plain, spoil
 from twinrope.blind import Blind, blind_difference, blind_number, blind_of, blind_plan, blind_row
 from twinrope.companions import companions, named_count, named_difference
 from twinrope.crowds import Crowd, ride_named, walk_named
-from twinrope.errors import NoName, NoRope
+from twinrope.desk import Desk
+from twinrope.errors import NoName, NoRope, NoStation
 from twinrope.exchanges import border_of, exchange_row, named_plan
+from twinrope.heard import heard_balance, heard_count, heard_ends, heard_first, heard_reds, heard_to
 from twinrope.houses import House
 from twinrope.layers import layers_of, twin_number
+from twinrope.logs import deletes, inserts, log_holds, mends, odd_ropes
+from twinrope.lots import Lot, closed_lot
 from twinrope.nets import Net
+from twinrope.parted import parted
 from twinrope.rides import end_of
 from twinrope.standings import Standing
+from twinrope.tables import kind_table, table_of
+from twinrope.together import Together, together_difference, together_row, turn_one
 
 NET = Net(4, [(0, 1), (2, 1), (1, 3)])
 FIRST = Standing(NET, [2, 0, 0, 0], [0, 0, 1, 0], [0, 1, 0])
@@ -30,7 +37,7 @@ RIDES = [(0, "ann"), (0, "ann"), (0, "eva"), (1, "eva")]
 
 def calls():
     """Pairs of a function and a list of its arguments, at least one for each entry of the interface."""
-    return crowd_calls() + house_calls()
+    return crowd_calls() + house_calls() + heard_calls() + lot_calls()
 
 
 def crowd_calls():
@@ -67,6 +74,51 @@ def house_calls():
     return found
 
 
+def heard_calls():
+    """The calls for points 60 to 64."""
+    together = Together()
+    both = [(0, "red"), (0, "both"), (0, "blue")]
+    meeting = Standing(NET, [2, 0, 0, 0], [1, 0, 1, 0], [0, 1, 0])
+    wrong = [(0, "red"), (0, "red"), (0, "red"), (1, "blue")]
+    found = [
+        (together.words, []), (together.steps, [meeting]), (together.step_to, [meeting, 0, "red"]),
+        (together.walk_steps, [meeting, list(both)]), (together.same_kind, [FIRST, SECOND]),
+        (together.kind_total, [NET, 2, 1]), (together.groups, [Net.row(3), 1, 1]), (turn_one, [meeting, 1]),
+        (parted, [House(), Blind(), Net.row(3), 1, 1]), (parted, [Blind(), together, Net.row(2), 2, 1]),
+        (parted, [House(), House(), Net.row(3), 1, 1]), (heard_reds, [FIRST, [0, 0, 1], 1]),
+        (heard_to, [FIRST, [0, 0, 0, 1], SECOND]),
+    ]
+    for entry in (together_difference, together_row):
+        found += [(entry, [FIRST, SECOND]), (entry, [ONE, ONE])]
+    for entry in (heard_count, heard_first, heard_ends, heard_balance):
+        found += [(entry, [FIRST, [0, 0, 1]]), (entry, [FIRST, []])]
+    for entry in (log_holds, odd_ropes, mends, inserts, deletes):
+        for rides in (wrong, wrong[:3], wrong + wrong, []):
+            found.append((entry, [FIRST, SECOND, list(rides)]))
+    return found
+
+
+def lot_calls():
+    """The calls for points 65 to 70, that of the deeds of a desk left out."""
+    desk = Desk(FIRST)
+    desk.attempt([(0, "red"), (0, "red"), (0, "red")])
+    desk.mark("m")
+    desk.undo()
+    desk.mark("n")
+    desk.set_goal(SECOND)
+    circle = [Standing(CIRCLES[1], [1] + [0] * 4, [0] * 5, [1, 1, car, car, car]) for car in (0, 1)]
+    lot = closed_lot(FIRST, SECOND)
+    return [
+        (closed_lot, [FIRST, SECOND]), (closed_lot, list(circle)), (closed_lot, [FIRST, LOW]),
+        (lambda *args: closed_lot(*args, least=True), [FIRST, SECOND]), (Lot, [FIRST, SECOND]),
+        (Lot.replayed, [FIRST, SECOND, lot.facts]), (Lot.replayed, [FIRST, SECOND, lot.facts[:4]]),
+        (lambda: lot.facts, []), (lambda: lot.outcome, []), (len, [lot]), (lambda fact: fact in lot, [lot.facts[2]]),
+        (lambda: desk.now, []), (lambda: desk.goal, []), (desk.left, []), (desk.rank, []), (desk.log, []),
+        (desk.redo_list, []), (desk.marks, []), (desk.runs_of, [0]), (desk.probe, [[(0, "red"), (1, "red")]]),
+        (lambda: list(desk.story()), []), (desk.advice, []), (table_of, [FIRST]), (kind_table, [3, 2]),
+    ]
+
+
 class Arguments(Case):
 
     def test_calls_change_no_argument_and_no_later_answer(self):
@@ -84,7 +136,63 @@ class Arguments(Case):
             self.assertEqual(plain(entry(*arguments)), plain(other(*again)))
 
 
+class Equality(Case):
+
+    def test_an_object_beside_a_value_of_another_class(self):
+        objects = [Crowd(Net(1, []), [], [], []), House(), Blind(), Together(), Lot(FIRST, FIRST), Desk(FIRST), FIRST,
+                   Net(1, [])]
+        others = [None, 0, "", "blind", (), [], {}, True, ((), ()), {1}]
+        for place, one in enumerate(objects):
+            for other in others + objects[:place] + objects[place + 1:]:
+                self.assertIs(one == other, False)
+                self.assertIs(one != other, True)
+                self.assertIs(other == one, False)
+            self.assertIs(one == one, True)
+
+
+class Deeds(Case):
+
+    def test_lists_that_are_passed_stay_and_are_not_kept(self):
+        desk = Desk(FIRST)
+        rides = [(0, "red"), (0, "red"), (0, "red"), (1, "red")]
+        desk.attempt(rides)
+        self.assertEqual(rides, [(0, "red"), (0, "red"), (0, "red"), (1, "red")])
+        rides.clear()
+        self.assertEqual((desk.done, desk.now), (4, SECOND))
+        desk.set_goal(FIRST)
+        row = desk.finish()
+        kept = list(row)
+        row.clear()
+        self.assertEqual(desk.log()[4:], kept)
+        self.assertEqual(plain(FIRST), plain(Standing(NET, [2, 0, 0, 0], [0, 0, 1, 0], [0, 1, 0])))
+
+    def test_two_desks_do_not_share_anything(self):
+        one, other = Desk(FIRST), Desk(FIRST)
+        one.take(0, "red")
+        one.mark("m")
+        one.move_home(2)
+        self.assertEqual((other.done, other.marks(), other.home, other.now), (0, [], 0, FIRST))
+        first, second = Lot(FIRST, SECOND), Lot(FIRST, SECOND)
+        first.put("totals", (2, 1), ())
+        self.assertEqual((len(first), len(second)), (1, 0))
+
+
 class OrderOfErrors(Case):
+
+    def test_ropes_and_stations_of_heard_rides_logs_and_desks(self):
+        desk = Desk(FIRST)
+        for rope in (-1, 3, FAR, -FAR):
+            for entry in (lambda: Together().step_to(FIRST, rope, ""), lambda: turn_one(FIRST, rope),
+                          lambda: Together().walk_steps(FIRST, [(rope, "")]), lambda: heard_count(FIRST, [rope]),
+                          lambda: heard_reds(FIRST, [rope], -1), lambda: heard_to(FIRST, [rope], SECOND),
+                          lambda: log_holds(FIRST, SECOND, [(rope, "")]), lambda: mends(FIRST, SECOND, [(rope, "")]),
+                          lambda: desk.take(rope, ""), lambda: desk.attempt([(rope, "")]), lambda: desk.runs_of(rope),
+                          lambda: desk.probe([(rope, "")])):
+                self.fails(entry, NoRope, rope)
+        for station in (-1, 4, FAR, -FAR):
+            for entry in (lambda: heard_reds(FIRST, [2], station), lambda: desk.move_home(station),
+                          lambda: setattr(desk, "home", station)):
+                self.fails(entry, NoStation, station)
 
     def test_ropes_and_names(self):
         for rope in (-1, 3, FAR, -FAR):

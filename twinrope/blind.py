@@ -6,6 +6,7 @@ from twinrope.checks import check_same_net, check_tree
 from twinrope.errors import BlindApart, HasBlues, NotPossible
 from twinrope.houses import House, check_step
 from twinrope.least import crossings_with, second_sides
+from twinrope.rides import with_moved, with_turned
 from twinrope.standings import Standing, check_totals
 from twinrope.ways import end_of_way, rope_steps, shortest_way
 
@@ -75,12 +76,8 @@ def can_step(standing, rope, word):
 def stepped(standing, rope, word):
     """The standing after a step that is known to be possible."""
     start = start_of(standing.net, rope, word)
-    guests = list(standing.reds)
-    guests[start] -= 1
-    guests[standing.net.other_end(rope, start)] += 1
-    cars = list(standing.cars)
-    cars[rope] = 1 - cars[rope]
-    return Standing(standing.net, guests, standing.blues, cars)
+    guests = with_moved(standing.reds, start, standing.net.other_end(rope, start))
+    return Standing(standing.net, guests, standing.blues, with_turned(standing.cars, rope))
 
 
 def blind_of(standing):

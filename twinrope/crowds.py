@@ -2,7 +2,7 @@
 
 from twinrope.checks import check_colour, check_rope, check_station
 from twinrope.errors import BadName, BrokenNames, NoName, NotHere, TooMany
-from twinrope.rides import car_of
+from twinrope.rides import car_of, with_turned
 from twinrope.standings import Standing, check_cars
 
 LETTERS = "abcdefghijklmnopqrstuvwxyz"
@@ -99,8 +99,7 @@ def ride_named(crowd, rope, name):
 def ridden_named(crowd, rope, name):
     """The crowd after a named ride that is known to be possible."""
     end = crowd.net.other_end(rope, crowd.place_of(name))
-    cars = list(crowd.cars)
-    cars[rope] = 1 - cars[rope]
+    cars = with_turned(crowd.cars, rope)
     return Crowd(crowd.net, cars, moved_guests(crowd.reds, name, end), moved_guests(crowd.blues, name, end))
 
 

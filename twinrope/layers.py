@@ -2,6 +2,7 @@
 
 from twinrope.checks import check_same_net
 from twinrope.errors import TooMany
+from twinrope.keyed import rides_on_key
 from twinrope.standings import standing_of_key
 
 MOST_IN_LAYERS = 3000
@@ -37,23 +38,4 @@ def key_layers(standing):
 
 def keys_after(net, key):
     """The keys of the standings after each possible ride."""
-    many = net.stations
-    found = []
-    for rope, ends in enumerate(net.ropes):
-        at = 2 * many + rope
-        red = ends[key[at]]
-        blue = ends[1 - key[at]]
-        if key[red] > 0:
-            found.append(key_with(key, red, blue, at))
-        if key[many + blue] > 0:
-            found.append(key_with(key, many + blue, many + red, at))
-    return found
-
-
-def key_with(key, start, end, at):
-    """The key after a guest has gone from one index to another, and the cars at the index `at` have moved."""
-    items = list(key)
-    items[start] -= 1
-    items[end] += 1
-    items[at] = 1 - items[at]
-    return tuple(items)
+    return [after for rope in range(len(net.ropes)) for colour, after in rides_on_key(net, key, rope)]

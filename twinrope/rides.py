@@ -55,11 +55,31 @@ def ridden(standing, rope, colour):
     """The standing after a ride that is known to be possible."""
     start = car_of(standing, rope, colour)
     end = standing.net.other_end(rope, start)
-    cars = list(standing.cars)
-    cars[rope] = 1 - cars[rope]
-    moved = list(guests_of(standing, colour))
-    moved[start] -= 1
-    moved[end] += 1
+    cars = with_turned(standing.cars, rope)
     if colour == "red":
-        return Standing(standing.net, moved, standing.blues, cars)
-    return Standing(standing.net, standing.reds, moved, cars)
+        return Standing(standing.net, with_moved(standing.reds, start, end), standing.blues, cars)
+    return Standing(standing.net, standing.reds, with_moved(standing.blues, start, end), cars)
+
+
+def with_moved(guests, start, end):
+    """The guests at each station after one of them has gone from the start to the end."""
+    after = list(guests)
+    after[start] -= 1
+    after[end] += 1
+    return after
+
+
+def with_turned(cars, rope):
+    after = list(cars)
+    after[rope] = 1 - after[rope]
+    return after
+
+
+def end_or_none(standing, rides):
+    """The last standing of the walk; None if it breaks, also at a rope or a word that does not exist."""
+    here = standing
+    for rope, colour in rides:
+        if not 0 <= rope < len(here.net.ropes) or colour not in COLOURS or not can_ride(here, rope, colour):
+            return None
+        here = ridden(here, rope, colour)
+    return here

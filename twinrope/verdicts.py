@@ -1,13 +1,13 @@
 """Verdicts that can be checked without a search, and the lengths of rows (points 49 and 50)."""
 
 from twinrope.books import books_of
-from twinrope.checks import COLOURS, check_exact, check_same_net
+from twinrope.checks import check_exact, check_same_net
 from twinrope.errors import BadCount
 from twinrope.floors import floor_number
 from twinrope.kinship import are_alike, difference_of
 from twinrope.marks import marks_of, still_by
 from twinrope.plans import plan_of
-from twinrope.rides import can_ride, ridden, rides_from
+from twinrope.rides import end_or_none, rides_from
 
 
 def verdict_of(first, second):
@@ -22,7 +22,7 @@ def verdict_of(first, second):
 def verdict_holds(first, second, claim):
     check_same_net(first, second)
     if claim[0] == "alike":
-        return row_leads(first, second, claim[1])
+        return end_or_none(first, claim[1]) == second
     _, why, marks = claim
     if why[0] == "rope":
         return rope_parts(first, second, why[1], marks)
@@ -30,16 +30,6 @@ def verdict_holds(first, second, claim):
         return False
     shown = totals_shown(first, second) if why[0] == "reds" else books_shown(first, second, why[1])
     return marks is None and why == shown and why[-1] != why[-2]
-
-
-def row_leads(first, second, rides):
-    """Whether the row, of any ropes and colours, can be walked from the first standing and ends in the second."""
-    here = first
-    for rope, colour in rides:
-        if not 0 <= rope < len(here.net.ropes) or colour not in COLOURS or not can_ride(here, rope, colour):
-            return False
-        here = ridden(here, rope, colour)
-    return here == second
 
 
 def totals_shown(first, second):
