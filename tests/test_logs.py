@@ -91,6 +91,14 @@ class Logs(Case):
         self.assertEqual(odd_ropes(first, second, [go, go]), [0, 1])
         self.assertEqual(inserts(first, second, []), [])
 
+    def test_a_log_that_breaks_twice(self):
+        # Before the middle the row cannot be walked, and behind it nothing leads to the end.
+        here = Standing(Net.row(3), [1, 0, 0], [0, 0, 0], [0, 0])
+        rides = [(1, "red"), (0, "red"), (1, "red")]
+        for entry in (mends, inserts, deletes):
+            self.assertEqual(entry(here, here, rides), [])
+        self.assertIs(log_holds(here, here, rides), False)
+
     def test_every_place_that_gives_the_same_row(self):
         net = Net.row(2)
         first, second = (Standing(net, [1, 0], [0, 0], [0]), Standing(net, [0, 1], [0, 0], [1]))

@@ -59,6 +59,11 @@ def content_by(word, net, one, two, facts, rng):
     return (rng.randrange(3),) if word == "least" else ()
 
 
+def frozen(value):
+    """The same value with tuples in the place of lists."""
+    return tuple(frozen(item) for item in value) if isinstance(value, (tuple, list)) else value
+
+
 class Facts(Case):
 
     def put_all(self, first, second, facts):
@@ -394,6 +399,7 @@ class ClosedLots(Case):
         one, two = place_of(first), place_of(second)
         for at, fact in enumerate(facts):
             self.assertIsInstance(fact, tuple)
+            self.assertEqual(fact, frozen(fact))
             self.assertTrue(all(0 <= use < at for use in fact[2]))
             self.assertTrue(right(first.net, one, two, facts, fact))
             self.assertIs(fact in lot, True)

@@ -242,6 +242,8 @@ class Turning(Case):
         for rope in (0, 1):
             self.fails(lambda: turn_one(here, rope), NoTurn, rope)
         empty = Standing.gathered(Net.ring(3), 0, 0)
+        for rope in (-1, 3, FAR):
+            self.fails(lambda: turn_one(empty, rope), NoRope, rope)
         for rope in range(3):
             self.fails(lambda: turn_one(empty, rope), NoTurn, rope)
 
@@ -299,6 +301,10 @@ class Rows(Case):
             here = Standing.gathered(Net.row(3), *totals)
             for there in (here, Standing.gathered(Net.row(3), 1, 1)):
                 self.fails(lambda: together_row(here, there), TooMany, 8)
+        for net in (Net.row(9), Net.row(3)):
+            for totals in ((9, 0), (1, 1)):
+                there = Standing.gathered(Net.ring(4), 1, 1)
+                self.fails(lambda: together_row(Standing.gathered(net, *totals), there), OtherNet)
         few, many = Standing.gathered(Net.row(8), 4, 4), Standing.gathered(Net.row(8), 5, 4)
         self.fails(lambda: together_row(few, many), TogetherApart, ("reds", 4, 5))
         self.assertTrue(can_meet(few))

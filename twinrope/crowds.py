@@ -46,7 +46,7 @@ class Crowd:
         return len(self.reds + self.blues)
 
     def __contains__(self, name):
-        return name in dict(self.reds + self.blues)
+        return name in [other for other, station in self.reds + self.blues]
 
 
 def check_named(net, guests):

@@ -1,6 +1,6 @@
 """The desk, which keeps a standing through many deeds (points 68 and 69)."""
 
-from twinrope.checks import check_exact, check_rope, check_same_net, check_station
+from twinrope.checks import check_exact, check_rope, check_station
 from twinrope.errors import NoGoal, NoMark, NothingToRedo, NothingToUndo
 from twinrope.floors import floor_number
 from twinrope.kinship import check_alike
@@ -85,7 +85,6 @@ class Desk:
 
     def set_goal(self, goal):
         if goal is not None:
-            check_same_net(self._now, goal)
             check_alike(self._now, goal)
         self._goal = goal
 

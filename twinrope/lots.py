@@ -6,7 +6,7 @@ from twinrope.checks import check_exact, check_same_net
 from twinrope.errors import BadLot, BadUse, LotClosed, NoFact, WrongFact
 from twinrope.facts import VERDICTS, is_fact_word, is_right
 from twinrope.floors import floor_paper
-from twinrope.kinship import check_alike, difference_of
+from twinrope.kinship import difference_of
 from twinrope.marks import marks_of
 from twinrope.plans import plan_of
 from twinrope.visits import visit_row
@@ -90,7 +90,6 @@ def closed_lot(first, second, *, least=False):
 
 
 def put_least(lot):
-    check_alike(lot.first, lot.second)
     rides = plan_of(lot.first, lot.second)
     bill, levels = floor_paper(lot.first, lot.second)
     way = lot.put("walk", (tuple(rides),), ())
