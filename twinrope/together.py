@@ -102,6 +102,6 @@ def strays(pair):
     """The pairs (station, colour) of the guests, besides the pair, who are not at station 0."""
     found = []
     for station in range(1, pair.here.net.stations):
-        members = 1 if station == pair.place else 0
-        found.extend([(station, colour) for colour in COLOURS if guests_of(pair.here, colour)[station] > members])
+        own = 1 if station == pair.place else 0
+        found.extend([(station, colour) for colour in COLOURS if guests_of(pair.here, colour)[station] > own])
     return found
