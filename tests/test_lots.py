@@ -1,6 +1,7 @@
 """Points 65 to 67: facts and lots."""
 
 import unittest
+from itertools import product
 from random import Random
 
 from case import FAR, Case
@@ -242,6 +243,77 @@ class Facts(Case):
         uses = facts[-1][2]
         again = facts[:-1] + [facts[uses[1]]]
         self.assertTrue(self.check(FIRST, SECOND, again, ("alike", (), uses[:1] + (len(again) - 1,) + uses[2:])))
+
+    def put_each(self, first, second, facts, tries):
+        """Behind the facts, which do not close the lot, puts each of the tries alone; returns those that are right."""
+        lot = self.put_all(first, second, facts)
+        self.assertIs(lot.closed, False)
+        found = []
+        for fact in tries:
+            if right(first.net, place_of(first), place_of(second), facts, fact):
+                self.assertEqual(self.put_all(first, second, facts).put(*fact), len(facts))
+                found.append(fact)
+            else:
+                self.fails(lambda: lot.put(*fact), WrongFact, fact[0])
+        self.assertEqual(lot.facts, facts)
+        return found
+
+    def over_all_uses(self, heads, many, sizes):
+        """Facts with these words and contents, over all uses of these sizes of so many facts."""
+        rows = [uses for size in sizes for uses in product(range(many), repeat=size)]
+        return [(word, content, uses) for word, content in heads for uses in rows]
+
+    def test_alike_over_facts_with_an_empty_content(self):
+        net = Net(2, [(0, 1), (0, 1)])
+        first, second = (Standing(net, [0, 0], [1, 1], [1, car]) for car in (0, 1))
+        facts = [("totals", (0, 2), ()), ("unlike", (0, -2, -1), ()), ("apart", (), (1,))]
+        tries = self.over_all_uses([("alike", ())], 3, range(7))
+        self.assertEqual(self.put_each(first, second, facts, tries), [])
+        with self.assertRaises(BadLot) as caught:
+            Lot.replayed(first, second, facts + [("alike", (), (0, 2))])
+        self.assertEqual(caught.exception.place, 3)
+        self.assertIs(type(caught.exception.__cause__), WrongFact)
+        lone = Standing(Net(1, []), [1], [0], [])
+        facts = [("totals", (1, 0), ()), ("totals", (1, 0), ()), ("book", (0, 1), ()), ("alike", (), (0, 2))]
+        put = self.put_each(lone, lone, facts, self.over_all_uses([("alike", ())], 4, range(5)))
+        self.assertEqual([uses for _, _, uses in put], [(0, 2), (1, 2)])
+
+    def test_uses_of_every_word_on_a_row(self):
+        net = Net.row(2)
+        first, second = Standing(net, [1, 0], [0, 0], [0]), Standing(net, [0, 1], [0, 0], [1])
+        facts = [("totals", (1, 0), ()), ("totals", (1, 0), ()), ("book", (0, 0), ()), ("book", (1, 0), ()),
+                 ("guest", (0, ()), ()), ("rope", (0,), (4,)), ("walk", (((0, "red"),),), ()),
+                 ("bill", ((1,), (0,), (0, 0), 1), ()), ("alike", (), (0, 2, 3, 5)), ("least", (1,), (6, 7))]
+        heads = [("alike", ()), ("least", (1,)), ("apart", ()), ("dead", (1,)), ("still", (0,)), ("rope", (0,))]
+        put = self.put_each(first, second, facts, self.over_all_uses(heads, len(facts), range(5)))
+        self.assertEqual(put, [("alike", (), (0, 2, 3, 5)), ("alike", (), (1, 2, 3, 5)), ("least", (1,), (6, 7)),
+                               ("rope", (0,), (4,))])
+
+    def test_uses_of_every_word_beside_a_dead_circle(self):
+        heads = [("alike", ()), ("least", (1,)), ("apart", ()), ("dead", (2,)), ("still", (2,)), ("rope", (2,))]
+        base = [("totals", (2, 0), ()), ("totals", (2, 0), ())]
+        base += [("book", (station, book), ()) for station, book in enumerate((1, 0, -2, -1, -1))]
+        base += [("guest", (1, ((0, "red"),)), ()), ("rope", (0,), (7,)), ("rope", (1,), (7,))]
+        base += [("marks", ((0, 1), ()), ())] + [("dead", (station,), (10,)) for station in (2, 3, 4)]
+        base += [("still", (2,), (11, 12)), ("still", (3,), (12, 13)), ("still", (4,), (13, 11))]
+        ropes = [("rope", (2,), (14,)), ("rope", (3,), (15,)), ("rope", (4,), (16,))]
+        uses = (0, 2, 3, 4, 5, 6, 8, 9, 17, 18, 19)
+        for second, more, alike in ((SECOND, ropes + [("alike", (), uses)], uses),
+                                    (TURNED, [("apart", (), (14,))], uses[:8] + (17, 17, 17))):
+            facts = base + more
+            many = len(facts)
+            rows = [alike[:at] + (use,) + alike[at + 1:] for at in range(len(alike)) for use in range(many)]
+            tries = self.over_all_uses(heads, many, range(3)) + [("alike", (), row) for row in rows]
+            put = self.put_each(FIRST, second, facts, tries)
+            self.assertEqual({word for word, _, _ in put},
+                             {"dead", "still"} | ({"rope", "alike"} if second is SECOND else {"apart"}))
+
+    def test_uses_of_every_word_over_counts(self):
+        other = Standing.gathered(NET, 3, 0)
+        facts = [("counts", (2, 3), ()), ("unlike", (0, 1, 2), ()), ("apart", (), (0,)), ("apart", (), (1,))]
+        heads = [("alike", ()), ("least", (1,)), ("apart", ()), ("dead", (2,)), ("still", (2,)), ("rope", (2,))]
+        put = self.put_each(FIRST, other, facts, self.over_all_uses(heads, 4, range(4)))
+        self.assertEqual(put, [("apart", (), (0,)), ("apart", (), (1,))])
 
     def test_least(self):
         net = Net.row(3)

@@ -101,9 +101,12 @@ def unlike_right(first, second, content, used):
 
 
 def alike_right(first, second, content, used):
-    net = first.net
-    shown = [("book", station) for station in range(net.stations)] + [("rope", rope) for rope in range(len(net.ropes))]
-    return words_of(used[:1]) == ["totals"] and [(word, about[0]) for word, about, uses in used[1:]] == shown
+    stations = list(range(first.net.stations))
+    ropes = list(range(len(first.net.ropes)))
+    # The words come before the contents: a fact of another word may have an empty content.
+    if words_of(used) != ["totals"] + ["book"] * len(stations) + ["rope"] * len(ropes):
+        return False
+    return [about[0] for word, about, uses in used[1:]] == stations + ropes
 
 
 def least_right(first, second, content, used):
